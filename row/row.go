@@ -35,13 +35,14 @@ func Check(r api.Row) error {
 	if !Name(r.Part) {
 		return api.ErrName
 	}
-	if !inBounds(r.Key) || !inBounds(r.Val) {
+	if !InBounds(r.Key) || !InBounds(r.Val) {
 		return api.ErrBound
 	}
 	return nil
 }
 
-func inBounds(n int) bool {
+// InBounds: may a number be a key, or a value?
+func InBounds(n int) bool {
 	return -api.MaxNum <= n && n <= api.MaxNum
 }
 
