@@ -39,13 +39,9 @@ func readHead(kind, line string) (h head, sum int, ok bool) {
 	if len(words) != 5 || words[0] != kind {
 		return head{}, 0, false
 	}
-	var numbers [4]int
-	for i := range numbers {
-		n, ok := row.Number(words[i+1])
-		if !ok {
-			return head{}, 0, false
-		}
-		numbers[i] = n
+	numbers, ok := row.Numbers(words[1:])
+	if !ok {
+		return head{}, 0, false
 	}
 	return head{n: numbers[0], lo: numbers[1], hi: numbers[2]}, numbers[3], true
 }

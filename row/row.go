@@ -14,8 +14,11 @@ import (
 const maxSigns = 11
 
 // Name: is a text one?
-func Name(s string) bool {
-	if len(s) < 1 || len(s) > api.MaxName {
+func Name(s string) bool { return Word(s, api.MaxName) }
+
+// Word: has a text 1 to most signs, all of them a name's? A name is one; the layers above have longer ones.
+func Word(s string, most int) bool {
+	if len(s) < 1 || len(s) > most {
 		return false
 	}
 	for i := 0; i < len(s); i++ {
@@ -60,12 +63,11 @@ func Read(s string) (api.Row, error) {
 	if len(words) != 3 {
 		return api.Row{}, api.ErrText
 	}
-	key, keyOK := Number(words[1])
-	val, valOK := Number(words[2])
-	if !keyOK || !valOK {
+	numbers, ok := Numbers(words[1:])
+	if !ok {
 		return api.Row{}, api.ErrText
 	}
-	r := api.Row{Part: words[0], Key: key, Val: val}
+	r := api.Row{Part: words[0], Key: numbers[0], Val: numbers[1]}
 	if err := Check(r); err != nil {
 		return api.Row{}, err
 	}
@@ -83,6 +85,19 @@ func Number(s string) (int, bool) {
 		return 0, false
 	}
 	return n, true
+}
+
+// Numbers that words are, if all of them are.
+func Numbers(words []string) ([]int, bool) {
+	numbers := make([]int, len(words))
+	for i, word := range words {
+		n, ok := Number(word)
+		if !ok {
+			return nil, false
+		}
+		numbers[i] = n
+	}
+	return numbers, true
 }
 
 // Less: does a row come ahead of another one?

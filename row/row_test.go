@@ -39,6 +39,20 @@ func TestNameOfEveryByte(t *testing.T) {
 	}
 }
 
+// A name's signs, in texts of other lengths.
+func TestWord(t *testing.T) {
+	for most := -1; most <= 13; most++ {
+		for n := range 15 {
+			if Word(strings.Repeat("a", n), most) != (1 <= n && n <= most) {
+				t.Errorf("%d signs, of %d at the most", n, most)
+			}
+		}
+	}
+	if Word("nine-sign", 12) || Word("twelvesigns\n", 12) {
+		t.Error("signs that are no name's")
+	}
+}
+
 // P10: what is right, and which error comes first. Errors are bare: this chapter tells no places.
 func TestCheck(t *testing.T) {
 	for _, c := range []struct {
@@ -124,6 +138,21 @@ func TestNumbers(t *testing.T) {
 	for _, n := range []int{0, 1, -1, 9, 10, -10, big, -big, big + 1, 99999999999, -9999999999} {
 		if got, ok := Number(strconv.Itoa(n)); got != n || !ok {
 			t.Errorf("Number of %d: %d, %v", n, got, ok)
+		}
+	}
+}
+
+// All words, or none.
+func TestNumbersOfWords(t *testing.T) {
+	if l, ok := Numbers([]string{"7", "-1073741825", "0"}); !slices.Equal(l, []int{7, -big - 1, 0}) || !ok {
+		t.Error(l, ok)
+	}
+	if l, ok := Numbers(nil); len(l) > 0 || !ok {
+		t.Error(l, ok)
+	}
+	for _, words := range [][]string{{"x"}, {""}, {"x", "1"}, {"1", "x"}, {"1", "02", "3"}} {
+		if l, ok := Numbers(words); len(l) > 0 || ok {
+			t.Error(words, l, ok)
 		}
 	}
 }
