@@ -74,7 +74,7 @@ func ReadLines(kind, s string, take func(line string) (int, error)) error {
 		return api.ErrSum
 	}
 	var h head
-	err := eachLine(body, func(line string) error {
+	err := EachLine(body, func(line string) error {
 		key, err := take(line)
 		if err != nil {
 			return err
@@ -94,8 +94,8 @@ func ReadLines(kind, s string, take func(line string) (int, error)) error {
 	return nil
 }
 
-// eachLine hands every line to take, up to the first that has no end or is refused; the error has that line's place.
-func eachLine(s string, take func(line string) error) error {
+// EachLine hands every line to take, up to the first that has no end or is refused; the error has that line's place.
+func EachLine(s string, take func(line string) error) error {
 	for at := 0; s != ""; at++ {
 		line, rest, ended := strings.Cut(s, lineEnd)
 		if !ended {
