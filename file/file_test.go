@@ -444,3 +444,21 @@ func FuzzOf(f *testing.F) {
 		}
 	})
 }
+
+// IsGone, Bare: what the layers above share.
+func TestShared(t *testing.T) {
+	for path, want := range map[string]bool{"gone/1": true, "gone/1073741824": true, "data/1": false, "gone/0": false, "gone": false, "": false} {
+		if got := IsGone(api.File{Path: path}); got != want {
+			t.Errorf("IsGone of %q: %v", path, got)
+		}
+	}
+	for _, err := range []error{nil, api.ErrFull, &api.Fault{At: 3, Err: api.ErrFull}} {
+		want := err
+		if err != nil {
+			want = api.ErrFull
+		}
+		if got := Bare(err); got != want {
+			t.Errorf("Bare(%#v): %#v", err, got)
+		}
+	}
+}

@@ -11,8 +11,6 @@ import (
 	"deedbox/store"
 )
 
-const kindGone = "gone"
-
 // content is what was read of files. A row is held against all keys that are gone only when all is read: files of keys stand behind those of rows.
 type content struct {
 	rows map[int][]api.Row // by the Seq of their files
@@ -40,7 +38,7 @@ func (c content) read(st *store.Store, f api.File) error {
 }
 
 func (c content) take(f api.File, text string) error {
-	if kind, _, _ := file.Number(f.Path); kind == kindGone {
+	if file.IsGone(f) {
 		return c.takeKeys(f.Seq, text)
 	}
 	return c.takeRows(f.Seq, text)
